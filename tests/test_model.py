@@ -7,7 +7,7 @@ import random
 import re
 import unittest
 
-from helper import BEGIN, COUNT, LAST_MOMENT, WRITE, ask, counted, get, note, read
+from helper import CALLS, COUNT, LAST_MOMENT, WRITE, ask, counted, draw_calls, draw_text, join, read
 
 MAY_STAND = "[^\x00-\x20\x7f]"
 DECIMAL = "(0|[1-9][0-9]*)"
@@ -55,6 +55,24 @@ def model_read(octets):
             things[told[0]] = told[1]
 
 
+def is_character(number):
+    return number < 0x110000 and not 0xD800 <= number <= 0xDFFF
+
+
+def refused(rows):
+    """What a call is refused with for the rows of a thing; None if for none."""
+    if max(len(row) for row in rows) > 32:
+        return [-1]
+    for row in rows:
+        if not row or any(not is_character(number) or number <= 0x20 or number == 0x7F for number in row):
+            return [-3]
+    return None
+
+
+def told(row):
+    return "".join(map(chr, row))
+
+
 def in_order(things):
     # Python orders texts by their characters' numbers.
     return sorted(things.items(), key=lambda item: (-item[1][0], item[0]))
@@ -70,10 +88,10 @@ class Model:
         return [0]
 
     def read(self, octets):
-        refusal, told = model_read(octets)
+        refusal, found = model_read(octets)
         if refusal:
             return refusal
-        self.clock, self.things = told
+        self.clock, self.things = found
         return [len(self.things)]
 
     def write(self):
@@ -92,91 +110,99 @@ class Model:
         return [0, moment, often] + counted([ord(c) for c in reading]) + counted([ord(c) for c in text])
 
     def note(self, reading, text):
-        if max(len(reading), len(text)) > 32:
-            return [-1]
-        for row in (reading, text):
-            if not row or any(c >= 0x110000 or 0xD800 <= c <= 0xDFFF or c <= 0x20 or c == 0x7F for c in row):
-                return [-3]
+        if refused([reading, text]):
+            return refused([reading, text])
         if self.clock == LAST_MOMENT:
             return [-6]
-        key = ("".join(map(chr, reading)), "".join(map(chr, text)))
+        key = (told(reading), told(text))
         self.clock += 1
         often = min(65535, self.things.get(key, (0, 0))[1] + 1)
         self.things[key] = (self.clock, often)
         self.things = dict(in_order(self.things)[:64])
         return [often]
 
+    def forget(self, reading, text):
+        if refused([reading, text]):
+            return refused([reading, text])
+        return [0] if self.things.pop((told(reading), told(text)), None) else [-5]
 
-def draw_row(draw):
-    if draw.random() < 0.04:
-        return draw.choice([[], [0x20], [0x7F, 97], [97, 0xD800], [0x110000], [97] * 33, [LAST_MOMENT], [98] * 40])
-    signs = [97, 97, 98, 98, 99, 0x21, 0xE9, 0x3042, 0xFFFF, 0x10000]
-    return [draw.choice(signs) for number in range(draw.choice([1, 1, 2, 3]))]
+    def of(self, j, reading):
+        return self.sought(j, reading, lambda other, row: other == row)
+
+    def goes(self, j, reading):
+        return self.sought(j, reading, str.startswith)
+
+    def sought(self, j, reading, fits):
+        if len(reading) > 32:
+            return [-1]
+        if not all(map(is_character, reading)):
+            return [-3]
+        places = [n for n, item in enumerate(in_order(self.things)) if fits(item[0][0], told(reading))]
+        return [-5] if j >= len(places) else [places[j]]
+
+    def cost(self, c, reading, text):
+        if c > 65535 or refused([reading, text]):
+            return [-1] if c > 65535 else refused([reading, text])
+        moment, often = self.things.get((told(reading), told(text)), (0, 0))
+        return [c * (4, 3, 2, 1)[min(often, 3)] // 4]
+
+    def join(self, octets):
+        refusal, found = model_read(octets)
+        if refusal:
+            return refusal
+        clock, others = found
+        self.clock = max(self.clock, clock)
+        both = {key: max(self.things.get(key, (0, 0)), others.get(key, (0, 0))) for key in {**self.things, **others}}
+        self.things = dict(in_order(both)[:64])
+        return [len(self.things)]
 
 
-def draw_lines(draw):
-    clock = draw.choice([0, 1, 9, 50, 50, 255, 65536, 2147483648, LAST_MOMENT - 3, LAST_MOMENT - 3, LAST_MOMENT])
-    lines = [str(clock)]
-    for number in range(draw.choice([0, 1, 2, 5, 30, 60, 64, 70])):
-        reading = "".join(draw.choice("abcd\u00e9\U0001f600") for sign in range(draw.choice([1, 2, 3])))
-        text = "".join(draw.choice("ABCDEFGH") for sign in range(draw.choice([1, 2, 3])))
-        moment = draw.choice([1, 2, clock, clock, draw.randint(1, clock + 1), draw.randint(1, clock + 1)])
-        often = draw.choice([1, 1, 2, 3, 65534, 65535])
-        lines.append(f"{reading} {text} {max(1, min(moment, clock + (draw.random() < 0.01)))} {often}")
-    return lines
-
-
-def draw_text(draw):
-    octets = bytearray("".join(line + "\n" for line in draw_lines(draw)).encode("utf-8"))
-    for number in range(draw.choice([0, 0, 0, 0, 1, 2])):
-        place = draw.randrange(len(octets)) if octets else 0
-        what = draw.choice([b"", b" ", b"0", b"\n", b"1", b"9999", b"\x7f", b"\xc3", b"\x80", b"\xed\xa0\x80", b"a"])
-        octets[place:place + draw.choice([0, 1, 1, 1])] = what
-    return list(octets)
-
-
-def draw_call(draw, room):
-    """The call, and what calls the model likewise."""
-    name = draw.choice(["note"] * 12 + ["get"] * 4 + ["count", "write", "read", "read", "begin"])
-    if name == "note":
-        reading, text = draw_row(draw), draw_row(draw)
-        return note(reading, text), lambda model: model.note(reading, text)
-    if name == "get":
-        i = draw.choice([0, 1, 2, 3, 40, 63, 64, LAST_MOMENT])
-        return get(i), lambda model: model.get(i)
-    octets = draw_text(draw)
-    if name == "read" and len(octets) < room:
-        return read(octets), lambda model: model.read(octets)
-    if name == "begin" and draw.random() < 0.3:
-        return BEGIN, Model.begin
-    return (WRITE, Model.write) if name == "write" else (COUNT, Model.count)
+def answered(model, drawn):
+    return [getattr(model, name)(*given) for name, given in drawn]
 
 
 class ModelTest(unittest.TestCase):
     def test_lists_of_calls(self):
-        for seed in range(150):
-            draw = random.Random(seed)
-            calls, modelled, room = [], [], 28000
-            for number in range(draw.choice([3, 40, 150])):
-                call, likewise = draw_call(draw, room)
-                room -= len(call)
-                calls.append(call)
-                modelled.append(likewise)
-            model = Model()
-            self.assertEqual(ask(*calls), [likewise(model) for likewise in modelled], f"seed {seed}")
+        seen = {}
+        for seed in range(300):
+            drawn = draw_calls(random.Random(seed))
+            expected = answered(Model(), drawn)
+            self.assertEqual(ask(*[CALLS[name](*given) for name, given in drawn]), expected, f"seed {seed}")
+            for (name, given), answer in zip(drawn, expected):
+                outcome = (name, min(answer[0], 0))
+                seen[outcome] = seen.get(outcome, 0) + 1
+        self.assertEqual(sorted(seen), sorted(OUTCOMES))
+        self.assertGreater(min(seen.values()), 20, seen)
 
     def test_texts(self):
         kinds = {}
         for seed in range(1500):
             octets = draw_text(random.Random(seed))
-            model = Model()
-            expected = [model.read(octets), model.write(), model.count()]
-            self.assertEqual(ask(read(octets), WRITE, COUNT), expected, f"seed {seed}")
+            for name in ("read", "join"):
+                drawn = [(name, (octets,)), ("write", ()), ("count", ())]
+                expected = answered(Model(), drawn)
+                self.assertEqual(ask(CALLS[name](octets), WRITE, COUNT), expected, f"seed {seed}")
             kind = expected[0][2] if expected[0][0] == -2 else 0
             kinds[kind] = kinds.get(kind, 0) + 1
         # The draw is of use only as long as it brings all that a text can be.
         self.assertEqual(sorted(kinds), [0, 1, 2, 3, 4])
         self.assertGreater(min(kinds.values()), 20)
+
+    def test_memories_put_together(self):
+        for seed in range(500):
+            draw = random.Random(seed)
+            one, other, third = draw_text(draw), draw_text(draw), draw_text(draw)
+            drawn = [("read", (one,)), ("join", (other,)), ("write", ()), ("join", (third,)), ("write", ())]
+            told_so = ask(read(one), join(other), WRITE, join(third), WRITE)
+            self.assertEqual(told_so, answered(Model(), drawn), f"seed {seed}")
+
+
+# What the drawn lists are to bring: each call taken, and refused for each cause that it can be.
+OUTCOMES = [(name, 0) for name in CALLS] + [
+    ("read", -2), ("join", -2), ("get", -4), ("note", -1), ("note", -3), ("note", -6),
+    ("forget", -1), ("forget", -3), ("forget", -5), ("of", -1), ("of", -3), ("of", -5),
+    ("goes", -1), ("goes", -3), ("goes", -5), ("cost", -1), ("cost", -3),
+]
 
 
 if __name__ == "__main__":

@@ -3,19 +3,9 @@
 import unittest
 
 from helper import (
-    CLOCK_AT_END, COUNT, LAST_MOMENT, MAY_NOT_STAND, TOO_LONG, WRITE, ask, note, read, text_after, written,
+    CLOCK_AT_END, COUNT, LAST_MOMENT, MAY_NOT_STAND, NEIGHBOURS, NO_CHARACTERS, STRANGERS, TOO_LONG, WRITE,
+    ask, full, note, read, text_after, written,
 )
-
-# What no reading and no text may hold: the controls, the blank, 7FH, and what's no character.
-STRANGERS = [0, 1, 9, 10, 0x1F, 0x20, 0x7F, 0xD800, 0xDBFF, 0xDC00, 0xDFFF, 0x110000, 0x7FFFFFFF, LAST_MOMENT]
-NEIGHBOURS = [0x21, 0x7E, 0x80, 0x9F, 0xA0, 0xAD, 0x7FF, 0x800, 0x3000, 0xD7FF, 0xE000, 0xFEFF, 0xFFFE, 0xFFFF,
-              0x10000, 0x10FFFF]
-
-
-def full(moments):
-    """A memory's text of 64 things with these moments, the clock 1000."""
-    lines = [f"r{number:02} T {moment} 1\n" for number, moment in enumerate(moments)]
-    return "1000\n" + "".join(lines)
 
 
 class NotedTest(unittest.TestCase):
@@ -125,7 +115,7 @@ class RefusedTest(unittest.TestCase):
             self.refused(self.TEXT, note(reading, text), MAY_NOT_STAND)
 
     def test_what_may_not_stand_there(self):
-        for stranger in STRANGERS:
+        for stranger in STRANGERS + NO_CHARACTERS:
             self.refused(self.TEXT, note([stranger], "t"), MAY_NOT_STAND)
             self.refused(self.TEXT, note("r", [stranger]), MAY_NOT_STAND)
             self.refused(self.TEXT, note([107, 97, stranger], "K"), MAY_NOT_STAND)

@@ -1,10 +1,10 @@
-"""The call read: which texts are a memory's, and what fault the others have."""
+"""The call read: which texts are a memory's, and what fault the others have, for join too."""
 
 import unittest
 
-from helper import COUNT, TOO_LONG, WRITE, ask, fault, get, note, read, text_after, written
+from helper import COUNT, TOO_LONG, WRITE, ask, fault, get, join, note, read, text_after, written
 
-# The object that a refused read finds, and leaves as it is.
+# The object that a refused read or join finds, and leaves as it is.
 BEFORE = [note("ka", "K"), note("ka", "Q"), note("ka", "K")]
 BEFORE_TEXT = "3\nka K 3 2\nka Q 2 1\n"
 
@@ -50,8 +50,9 @@ class ReadTest(unittest.TestCase):
 
 class FaultTest(unittest.TestCase):
     def refused(self, text, line, kind):
-        told = ask(*BEFORE, read(text), WRITE, COUNT)
-        self.assertEqual(told[3:], [fault(line, kind), written(BEFORE_TEXT), [2, 3]], text)
+        for call in (read, join):
+            told = ask(*BEFORE, call(text), WRITE, COUNT)
+            self.assertEqual(told[3:], [fault(line, kind), written(BEFORE_TEXT), [2, 3]], text)
 
     def test_no_first_line(self):
         self.refused("", 0, 1)
@@ -164,13 +165,15 @@ class FaultTest(unittest.TestCase):
         self.refused("5\n\n\n", 1, 1)
 
     def test_after_a_fault_the_object_still_takes_calls(self):
-        told = ask(*BEFORE, read("9\nb B 1 1\nx\n"), note("ka", "Q"), WRITE)
-        self.assertEqual(told[3:], [fault(2, 1), [2], written("4\nka Q 4 2\nka K 3 2\n")])
+        for call in (read, join):
+            told = ask(*BEFORE, call("9\nb B 1 1\nx\n"), note("ka", "Q"), WRITE)
+            self.assertEqual(told[3:], [fault(2, 1), [2], written("4\nka Q 4 2\nka K 3 2\n")])
 
     def test_a_text_above_65536_bytes(self):
         # The interface hands in no such text; the document tells what one is answered.
         for text in ("x" * 65537, "5\n" + "\n" * 65535):
-            self.assertEqual(ask(*BEFORE, read(text), WRITE)[3:], [TOO_LONG, written(BEFORE_TEXT)])
+            for call in (read, join):
+                self.assertEqual(ask(*BEFORE, call(text), WRITE)[3:], [TOO_LONG, written(BEFORE_TEXT)])
         self.refused("x" * 65536, 0, 1)
 
 
